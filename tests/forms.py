@@ -1,0 +1,64 @@
+"""Faces as bytes, for the tests: written by themselves, without the program's own code."""
+
+import unittest
+
+MARK = [83, 72, 70, 49]
+VERY_GREAT = 18446744073709551615
+
+
+def two(number):
+    return [number & 255, number >> 8]
+
+
+def plane(rows, sign):
+    """The plane of one kind of point: rows are texts, one sign a column."""
+    written = []
+    for row in rows:
+        bits = sum(1 << column for column, point in enumerate(row) if point == sign)
+        written.extend(bits.to_bytes((len(row) + 7) // 8, "little"))
+    return written
+
+
+def glyph_of(letter, budget, cost, rows):
+    """A glyph's bytes; in rows, # must be ink, . must be paper, ? is free."""
+    head = two(letter) + [len(rows[0])] + two(budget) + two(cost)
+    return head + plane(rows, "#") + plane(rows, ".")
+
+
+def raw_glyph(letter=1, width=1, budget=0, cost=0, ink=(0,), paper=(0,)):
+    return two(letter) + [width] + two(budget) + two(cost) + list(ink) + list(paper)
+
+
+def face_of(height, cost, *glyphs):
+    written = MARK + [height] + two(cost) + two(len(glyphs))
+    for one in glyphs:
+        written += one
+    return written
+
+
+class Kept(list):
+    """A list that tells of every change, so that one that is undone again is seen too."""
+
+    def changed(self, *arguments):
+        raise AssertionError("what was handed in is changed")
+
+    append = extend = insert = remove = pop = clear = sort = reverse = changed
+    __setitem__ = __delitem__ = __iadd__ = __imul__ = changed
+
+
+class FormTest(unittest.TestCase):
+    """What is asked of every call: the answer, twice the same, and nothing handed in is changed."""
+
+    def answers(self, call, arguments, expected):
+        before = [list(a) if isinstance(a, list) else a for a in arguments]
+        first = call(*arguments)
+        self.assertEqual(first, expected)
+        self.assertIs(type(first), list)
+        self.assertTrue(all(type(number) is int for number in first))
+        self.assertEqual(arguments, before)
+        first.append(-99)
+        self.assertEqual(arguments, before)
+        self.assertEqual(call(*arguments), expected)
+        self.assertEqual(arguments, before)
+        kept = [Kept(a) if isinstance(a, list) else a for a in arguments]
+        self.assertEqual(call(*kept), expected)

@@ -1,8 +1,11 @@
-"""Faces as bytes, for the tests: written by themselves, without the program's own code."""
+"""Faces and scans as bytes, for the tests: written by themselves, without the program's own code."""
 
+import itertools
 import unittest
 
 MARK = [83, 72, 70, 49]
+SCAN_MARK = [83, 72, 84, 49]
+KINDS = {".": 0, "#": 1, "?": 2}
 VERY_GREAT = 18446744073709551615
 
 
@@ -34,6 +37,42 @@ def face_of(height, cost, *glyphs):
     for one in glyphs:
         written += one
     return written
+
+
+def points_of(rows):
+    """A glyph's points as numbers, row by row."""
+    return [KINDS[point] for row in rows for point in row]
+
+
+def four(number):
+    return list(number.to_bytes(4, "little"))
+
+
+def run(sign, count):
+    """The byte of one run."""
+    return 64 * KINDS[sign] + count - 1
+
+
+def runs_of(row):
+    """The runs of one row of a scan: a text, # for ink, . for paper, ? for unclear."""
+    written = []
+    for sign, group in itertools.groupby(row):
+        count = len(list(group))
+        written += [run(sign, 64)] * (count // 64)
+        if count % 64:
+            written.append(run(sign, count % 64))
+    return written
+
+
+def scan_of(rows):
+    written = SCAN_MARK + four(len(rows[0])) + four(len(rows))
+    for above, row in zip([None] + rows, rows):
+        written += [255] if row == above else runs_of(row)
+    return written
+
+
+def raw_scan(width, height, *rest):
+    return SCAN_MARK + four(width) + four(height) + list(rest)
 
 
 class Kept(list):

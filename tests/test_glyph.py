@@ -2,14 +2,12 @@
 
 import unittest
 
-from forms import FormTest, VERY_GREAT, face_of, glyph_of, raw_glyph
+from forms import FormTest, VERY_GREAT, face_of, glyph_of, points_of, raw_glyph
 from lettershapesdesk.faces import glyph
-
-KINDS = {".": 0, "#": 1, "?": 2}
 
 
 def told(letter, budget, cost, rows):
-    points = [KINDS[point] for row in rows for point in row]
+    points = points_of(rows)
     return [0, letter, len(rows[0]), budget, cost, len(points)] + points
 
 

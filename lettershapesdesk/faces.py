@@ -1,4 +1,4 @@
-"""The calls: faces are kept, and wrong points counted."""
+"""The calls: faces are kept, wrong points counted, places and shapes that fit are told."""
 
 from lettershapesdesk.forms import FREE, MOST_BUDGET, MOST_COST, MOST_GLYPHS, MOST_HEIGHT, MOST_LETTER, MOST_WIDTH
 from lettershapesdesk.forms import Face, Fault, Glyph, face_bytes, glyph_bytes, rank_of, read_face, read_scan
@@ -38,7 +38,7 @@ def bare(h, cost):
     """Call 3: the form of a face without glyphs."""
     if h < 1 or h > MOST_HEIGHT or cost > MOST_COST:
         return [OUT_OF_BOUNDS]
-    return told_form(face_bytes(Face(h, cost, [])))
+    return told_numbers(face_bytes(Face(h, cost, [])))
 
 
 def put(letter, width, budget, cost, face, points):
@@ -65,7 +65,7 @@ def drop(k, face):
         return refused_form(fault)
     if k >= len(known.glyphs):
         return [NOT_THERE]
-    return told_form(face_bytes(Face(known.height, known.cost, known.glyphs[:k] + known.glyphs[k + 1:])))
+    return told_numbers(face_bytes(Face(known.height, known.cost, known.glyphs[:k] + known.glyphs[k + 1:])))
 
 
 def wrong(k, x, y, face, scan):
@@ -80,7 +80,50 @@ def wrong(k, x, y, face, scan):
     shape = known.glyphs[k]
     if hangs_over(page, x, y, shape.width, known.height):
         return [NOT_THERE]
-    return [0, at_odds(shape.rows, cut_out(page, x, y, shape.width, known.height))]
+    return [0, wrong_points(shape, x, y, page)]
+
+
+def fits(x0, y0, x1, y1, face, scan):
+    """Call 7: all places in the box, as x, y, k and how many points are wrong."""
+    try:
+        known = read_face(face, 0)
+        page = read_scan(scan, 1)
+    except Fault as fault:
+        return refused_form(fault)
+    if x0 > x1 or y0 > y1 or x1 > page.width or y1 > page.height:
+        return [NOT_THERE]
+    places = []
+    for y in range(y0, y1 - known.height + 1):
+        for x in range(x0, x1):
+            places.extend(fits_at(x, y, x1, known, page))
+    return told_numbers(places)
+
+
+def clash(left, right, d, face):
+    """Call 8: the clash of two glyphs, the second put d columns to the right."""
+    try:
+        known = read_face(face, 0)
+    except Fault as fault:
+        return refused_form(fault)
+    if left >= len(known.glyphs) or right >= len(known.glyphs):
+        return [NOT_THERE]
+    return [0, clash_of(known.glyphs[left], known.glyphs[right], d)]
+
+
+def alikes(face):
+    """Call 9: all pairs of glyphs that are alike, as f, g and their clash."""
+    try:
+        known = read_face(face, 0)
+    except Fault as fault:
+        return refused_form(fault)
+    pairs = []
+    for f, left in enumerate(known.glyphs):
+        for g in range(f + 1, len(known.glyphs)):
+            right = known.glyphs[g]
+            count = clash_of(left, right, 0)
+            if count <= left.budget + right.budget:
+                pairs.extend([f, g, count])
+    return told_numbers(pairs)
 
 
 def refused_form(fault):
@@ -88,9 +131,9 @@ def refused_form(fault):
     return [NOT_A_FORM, fault.which, fault.rule, fault.place]
 
 
-def told_form(form):
-    """The answer that tells a form."""
-    return [0, len(form)] + form
+def told_numbers(numbers):
+    """The answer that tells how many numbers there are, and these: a form's bytes, places, pairs."""
+    return [0, len(numbers)] + numbers
 
 
 def told_with(known, shape):
@@ -102,7 +145,28 @@ def told_with(known, shape):
         return [THERE_ALREADY]
     if len(known.glyphs) >= MOST_GLYPHS:
         return [TOO_MANY]
-    return told_form(face_bytes(Face(known.height, known.cost, lesser + [shape] + rest)))
+    return told_numbers(face_bytes(Face(known.height, known.cost, lesser + [shape] + rest)))
+
+
+def fits_at(x, y, end, known, page):
+    """The glyphs that fit at (x, y) and end ahead of this column, each as x, y, k and its wrong points."""
+    found = []
+    for k, shape in enumerate(known.glyphs):
+        if x + shape.width <= end:
+            count = wrong_points(shape, x, y, page)
+            if count <= shape.budget:
+                found.extend([x, y, k, count])
+    return found
+
+
+def wrong_points(shape, x, y, page):
+    """How many points of the glyph are wrong at (x, y); the scan has all of them."""
+    return at_odds(shape.rows, cut_out(page, x, y, shape.width, len(shape.rows)))
+
+
+def clash_of(left, right, d):
+    """How many points of the two glyphs clash, the second put d columns to the right."""
+    return at_odds(right.rows, [row[d:] for row in left.rows])
 
 
 def hangs_over(page, x, y, width, height):

@@ -1,11 +1,14 @@
-"""The calls: faces are kept, wrong points counted, places and shapes that fit are told."""
+"""The calls: faces are kept, wrong points counted, places and shapes that fit are told, samples are gathered."""
 
-from lettershapesdesk.forms import FREE, MOST_BUDGET, MOST_COST, MOST_GLYPHS, MOST_HEIGHT, MOST_LETTER, MOST_WIDTH
-from lettershapesdesk.forms import Face, Fault, Glyph, face_bytes, glyph_bytes, rank_of, read_face, read_scan
+from lettershapesdesk.forms import MOST_BUDGET, MOST_COST, MOST_GLYPHS, MOST_HEIGHT, MOST_LETTER, MOST_SAMPLES
+from lettershapesdesk.forms import FREE, INK, MOST_WIDTH, PAPER, Face, Fault, Glyph, Seen
+from lettershapesdesk.forms import face_bytes, glyph_bytes, plane_of, rank_of, read_face, read_scan, read_seen
+from lettershapesdesk.forms import seen_bytes
 
 OUT_OF_BOUNDS = -1
 NOT_THERE = -2
 THERE_ALREADY = -2
+DIFFERENT = -2
 NOT_A_FORM = -5
 TOO_MANY = -6
 
@@ -126,6 +129,43 @@ def alikes(face):
     return told_numbers(pairs)
 
 
+def unseen(letter, w, h, b):
+    """Call 10: the form of nothing seen of a letter yet."""
+    if letter > MOST_LETTER or w < 1 or w > MOST_WIDTH or h < 1 or h > MOST_HEIGHT or b > MOST_BUDGET:
+        return [OUT_OF_BOUNDS]
+    blank = [[0] * w] * h
+    return told_numbers(seen_bytes(Seen(letter, w, h, b, 0, blank, blank)))
+
+
+def add(x, y, seen, scan):
+    """Call 11: the form of what was seen with a sample more, at (x, y)."""
+    try:
+        known = read_seen(seen, 0)
+        page = read_scan(scan, 1)
+    except Fault as fault:
+        return refused_form(fault)
+    if hangs_over(page, x, y, known.width, known.height):
+        return [NOT_THERE]
+    rows = cut_out(page, x, y, known.width, known.height)
+    ink = plane_of(rows, INK)
+    paper = plane_of(rows, PAPER)
+    return told_joined(known, Seen(known.letter, known.width, known.height, known.leeway, 1, ink, paper))
+
+
+def join(seen, other):
+    """Call 12: the form of the samples of both."""
+    try:
+        known = read_seen(seen, 0)
+        more = read_seen(other, 1)
+    except Fault as fault:
+        return refused_form(fault)
+    if known.letter != more.letter or known.width != more.width or known.height != more.height:
+        return [DIFFERENT]
+    if known.leeway != more.leeway:
+        return [DIFFERENT]
+    return told_joined(known, more)
+
+
 def refused_form(fault):
     """The refusal of a form: which one of those handed in, the rule, the place."""
     return [NOT_A_FORM, fault.which, fault.rule, fault.place]
@@ -146,6 +186,24 @@ def told_with(known, shape):
     if len(known.glyphs) >= MOST_GLYPHS:
         return [TOO_MANY]
     return told_numbers(face_bytes(Face(known.height, known.cost, lesser + [shape] + rest)))
+
+
+def told_joined(known, more):
+    """The answer that tells the samples of both, which are of one letter."""
+    samples = known.samples + more.samples
+    if samples > MOST_SAMPLES:
+        return [TOO_MANY]
+    ink = either_of(known.ink, more.ink)
+    paper = either_of(known.paper, more.paper)
+    return told_numbers(seen_bytes(Seen(known.letter, known.width, known.height, known.leeway, samples, ink, paper)))
+
+
+def either_of(plane, other):
+    """The plane of the points that are in one of the two planes or in both."""
+    joined = []
+    for row, other_row in zip(plane, other):
+        joined.append([bit | other_bit for bit, other_bit in zip(row, other_row)])
+    return joined
 
 
 def fits_at(x, y, end, known, page):

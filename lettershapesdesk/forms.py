@@ -1,13 +1,15 @@
-"""What the forms tell (a face, a scan), and how forms are read and written."""
+"""What the forms tell (a face, a scan, what was seen of a letter), and how forms are read and written."""
 
 FACE_MARK = (83, 72, 70, 49)
 SCAN_MARK = (83, 72, 84, 49)
+SEEN_MARK = (83, 72, 76, 49)
 MOST_HEIGHT = 64
 MOST_WIDTH = 64
 MOST_LETTER = 4095
 MOST_COST = 4095
 MOST_BUDGET = 4096
 MOST_GLYPHS = 4096
+MOST_SAMPLES = 4096
 MOST_SIDE = 8192
 MOST_POINTS = 16777216
 LONGEST_RUN = 64
@@ -56,6 +58,19 @@ class Scan:
         self.width = width
         self.height = height
         self.rows = rows
+
+
+class Seen:
+    """What was seen of a letter whose prints may differ at so many places: two planes, as rows of 0 and 1."""
+
+    def __init__(self, letter, width, height, leeway, samples, ink, paper):
+        self.letter = letter
+        self.width = width
+        self.height = height
+        self.leeway = leeway
+        self.samples = samples
+        self.ink = ink
+        self.paper = paper
 
 
 class Reader:
@@ -203,6 +218,31 @@ def scan_row_bytes(row, above):
     return written
 
 
+def read_seen(form, which):
+    """What the bytes tell was seen; Fault with the first rule broken, if they tell nothing."""
+    reader = Reader(form, which)
+    reader.take_mark(SEEN_MARK)
+    letter = reader.take_bounded(2, 0, MOST_LETTER, 2)
+    width = reader.take_bounded(1, 1, MOST_WIDTH, 2)
+    height = reader.take_bounded(1, 1, MOST_HEIGHT, 2)
+    leeway = reader.take_bounded(2, 0, MOST_BUDGET, 2)
+    samples = reader.take_bounded(2, 0, MOST_SAMPLES, 2)
+    ink = read_seen_plane(reader, width, height, samples)
+    paper = read_seen_plane(reader, width, height, samples)
+    reader.take_end()
+    return Seen(letter, width, height, leeway, samples, ink, paper)
+
+
+def read_seen_plane(reader, width, height, samples):
+    """The plane that is due of what was seen in so many samples."""
+    start = reader.place
+    plane = read_plane(reader, width, height)
+    for row in range(height):
+        if samples == 0 and 1 in plane[row]:
+            raise Fault(reader.which, 4, start + row * row_size(width))
+    return plane
+
+
 def face_bytes(face):
     """The form of a face."""
     written = list(FACE_MARK) + [face.height] + number_bytes(face.cost, 2) + number_bytes(len(face.glyphs), 2)
@@ -215,6 +255,13 @@ def glyph_bytes(shape):
     """The bytes of a glyph in a face's form."""
     head = number_bytes(shape.letter, 2) + [shape.width] + number_bytes(shape.budget, 2) + number_bytes(shape.cost, 2)
     return head + plane_bytes(plane_of(shape.rows, INK)) + plane_bytes(plane_of(shape.rows, PAPER))
+
+
+def seen_bytes(seen):
+    """The form of what was seen."""
+    head = list(SEEN_MARK) + number_bytes(seen.letter, 2) + [seen.width, seen.height]
+    numbers = number_bytes(seen.leeway, 2) + number_bytes(seen.samples, 2)
+    return head + numbers + plane_bytes(seen.ink) + plane_bytes(seen.paper)
 
 
 def plane_bytes(plane):

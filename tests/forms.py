@@ -1,10 +1,11 @@
-"""Faces and scans as bytes, for the tests: written by themselves, without the program's own code."""
+"""Faces, scans and what was seen as bytes, for the tests: written by themselves, without the program's own code."""
 
 import itertools
 import unittest
 
 MARK = [83, 72, 70, 49]
 SCAN_MARK = [83, 72, 84, 49]
+SEEN_MARK = [83, 72, 76, 49]
 KINDS = {".": 0, "#": 1, "?": 2}
 VERY_GREAT = 18446744073709551615
 
@@ -73,6 +74,26 @@ def scan_of(rows):
 
 def raw_scan(width, height, *rest):
     return SCAN_MARK + four(width) + four(height) + list(rest)
+
+
+def raw_seen(letter, width, height, leeway, samples, *planes):
+    return SEEN_MARK + two(letter) + [width, height] + two(leeway) + two(samples) + list(planes)
+
+
+def seen_of(letter, leeway, samples, rows):
+    """What was seen: in rows, # is ink alone, . paper alone, x both, ? neither."""
+    ink = [row.replace("x", "#") for row in rows]
+    paper = [row.replace("x", ".") for row in rows]
+    return raw_seen(letter, len(rows[0]), len(rows), leeway, samples, *plane(ink, "#"), *plane(paper, "."))
+
+
+def overlaid(prints):
+    """What is seen in these prints together, as seen_of wants it: each print is a list of rows."""
+    signs = {(False, False): "?", (True, False): "#", (False, True): ".", (True, True): "x"}
+    rows = []
+    for lines in zip(*prints):
+        rows.append("".join(signs["#" in points, "." in points] for points in zip(*lines)))
+    return rows
 
 
 class Kept(list):

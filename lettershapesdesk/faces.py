@@ -1,14 +1,15 @@
-"""The calls: faces are kept, wrong points counted, places and shapes that fit are told, samples are gathered."""
+"""The calls: faces are kept, wrong points counted, places and shapes that fit are told, shapes are learnt."""
 
 from lettershapesdesk.forms import MOST_BUDGET, MOST_COST, MOST_GLYPHS, MOST_HEIGHT, MOST_LETTER, MOST_SAMPLES
 from lettershapesdesk.forms import FREE, INK, MOST_WIDTH, PAPER, Face, Fault, Glyph, Seen
-from lettershapesdesk.forms import face_bytes, glyph_bytes, plane_of, rank_of, read_face, read_scan, read_seen
-from lettershapesdesk.forms import seen_bytes
+from lettershapesdesk.forms import read_face, read_scan, read_seen, face_bytes, glyph_bytes, seen_bytes
+from lettershapesdesk.forms import both_in, kinds_of, plane_of, rank_of
 
 OUT_OF_BOUNDS = -1
 NOT_THERE = -2
 THERE_ALREADY = -2
 DIFFERENT = -2
+NO_SUCH_LETTER = -3
 NOT_A_FORM = -5
 TOO_MANY = -6
 
@@ -166,6 +167,33 @@ def join(seen, other):
     return told_joined(known, more)
 
 
+def torn(seen):
+    """Call 13: how many places are torn."""
+    try:
+        known = read_seen(seen, 0)
+    except Fault as fault:
+        return refused_form(fault)
+    return [0, torn_places(known)]
+
+
+def learnt(cost, face, seen):
+    """Call 14: the form of the face with the glyph that was learnt, with this cost."""
+    if cost > MOST_COST:
+        return [OUT_OF_BOUNDS]
+    try:
+        known = read_face(face, 0)
+        samples = read_seen(seen, 1)
+    except Fault as fault:
+        return refused_form(fault)
+    if samples.height != known.height:
+        return [DIFFERENT]
+    budget = samples.leeway - torn_places(samples)
+    if budget < 0:
+        return [NO_SUCH_LETTER]
+    rows = kinds_of(samples.ink, samples.paper)
+    return told_with(known, Glyph(samples.letter, samples.width, budget, cost, rows))
+
+
 def refused_form(fault):
     """The refusal of a form: which one of those handed in, the rule, the place."""
     return [NOT_A_FORM, fault.which, fault.rule, fault.place]
@@ -204,6 +232,11 @@ def either_of(plane, other):
     for row, other_row in zip(plane, other):
         joined.append([bit | other_bit for bit, other_bit in zip(row, other_row)])
     return joined
+
+
+def torn_places(known):
+    """At how many places both ink and paper were seen."""
+    return sum([both_in(ink_row, paper_row) for ink_row, paper_row in zip(known.ink, known.paper)])
 
 
 def fits_at(x, y, end, known, page):

@@ -119,14 +119,15 @@ def read_face(form, which):
     cost = reader.take_bounded(2, 0, MOST_COST, 2)
     count = reader.take_bounded(2, 0, MOST_GLYPHS, 2)
     glyphs = []
-    rank = []
+    # Below every rank, so that the first glyph always rises.
+    rank_before = []
     for turn in range(count):
         start = reader.place
         glyphs.append(read_glyph(reader, height))
-        rank_before = rank
         rank = rank_of(form[start:reader.place])
-        if turn > 0 and rank <= rank_before:
+        if rank <= rank_before:
             raise Fault(which, 6, start)
+        rank_before = rank
     reader.take_end()
     return Face(height, cost, glyphs)
 

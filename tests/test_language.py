@@ -83,6 +83,41 @@ class Language(unittest.TestCase):
                 if isinstance(node, ast.Call) and isinstance(node.func, ast.Attribute):
                     self.assertIn(node.func.attr, METHODS | own_methods, node.lineno)
 
+    def test_imports(self):
+        drawn = {}
+        for file in FILES:
+            tree = ast.parse(file.read_text(encoding="utf-8"))
+            rows = [node for node in ast.walk(tree) if isinstance(node, ast.ImportFrom)]
+            names = {alias.name for node in rows for alias in node.names}
+            used = {node.id for node in ast.walk(tree) if isinstance(node, ast.Name)}
+            bound = {node.id for node in ast.walk(tree)
+                     if isinstance(node, ast.Name) and isinstance(node.ctx, ast.Store)}
+            bound |= {node.arg for node in ast.walk(tree) if isinstance(node, ast.arg)}
+            with self.subTest(file=file.name):
+                self.assertEqual(names - used, set())
+                self.assertEqual(names & bound, set())
+                for node in rows:
+                    self.assertIn(node, tree.body)
+                    source = PACKAGE.parent / (node.module.replace(".", "/") + ".py")
+                    self.assertLessEqual({alias.name for alias in node.names}, top_names(source))
+            drawn[file.stem] = {node.module.split(".")[-1] for node in rows}
+        # Files that draw from none that are left are taken away until none is left, or some draw in a ring.
+        while drawn:
+            free = {name for name, others in drawn.items() if not others & set(drawn)}
+            self.assertTrue(free, drawn)
+            drawn = {name: others for name, others in drawn.items() if name not in free}
+
+
+def top_names(source):
+    """The names that a file defines at its top."""
+    names = set()
+    for node in ast.parse(source.read_text(encoding="utf-8")).body:
+        if isinstance(node, ast.Assign):
+            names |= {target.id for target in node.targets}
+        elif isinstance(node, (ast.FunctionDef, ast.ClassDef)):
+            names.add(node.name)
+    return names
+
 
 if __name__ == "__main__":
     unittest.main()
